@@ -20,8 +20,8 @@ func oddStrings() []string {
 	}
 }
 
-// callAll calls every function of the chapter with the odd strings and returns its results as text.
-func callAll() []string {
+// callStrings calls every function of the chapter with the odd strings and returns its results as text.
+func callStrings() []string {
 	var out []string
 	for _, n := range []int{0, -1, math.MaxInt, math.MinInt, math.MaxInt32, math.MinInt32} {
 		out = append(out, fmt.Sprint(impl.FormatInt(n)))
@@ -38,18 +38,23 @@ func callAll() []string {
 	return out
 }
 
-func TestStringFunctionsAreTotal(t *testing.T) {
-	first := callAll()
+// checkTotal makes the calls of a chapter twice and checks that those that fail return zero values
+// and that each of them returns the same both times.
+func checkTotal(t *testing.T, calls func() []string) {
+	t.Helper()
+	first := calls()
 	for _, results := range first {
 		zero := results == "false" || results == "0 false" || results == "[] false"
 		if !zero && !strings.HasSuffix(results, "true") {
 			t.Errorf("a failing call returned more than zero values: %.40q", results)
 		}
 	}
-	if !slices.Equal(first, callAll()) {
+	if !slices.Equal(first, calls()) {
 		t.Error("the same calls returned something else the second time")
 	}
 }
+
+func TestStringFunctionsAreTotal(t *testing.T) { checkTotal(t, callStrings) }
 
 func TestJoinStringsLeavesItsArgumentAlone(t *testing.T) {
 	whole := []string{"a", "", "b", "beyond", "beyond"}
