@@ -44,7 +44,7 @@ func checkTotal(t *testing.T, calls func() []string) {
 	t.Helper()
 	first := calls()
 	for _, results := range first {
-		zero := results == "false" || results == "0 false" || results == "0 0 false" || results == "[] false"
+		zero := results == "false" || results == "false false" || results == "0 false" || results == "0 0 false" || results == "[] false"
 		if !zero && !strings.HasSuffix(results, "true") {
 			t.Errorf("a failing call returned more than zero values: %.40q", results)
 		}
