@@ -42,10 +42,10 @@ func callStrings() []string {
 // and that each of them returns the same both times.
 func checkTotal(t *testing.T, calls func() []string) {
 	t.Helper()
+	zeros := []string{"false", "false false", "0 false", "0 0 false", "[] false", "{0 0 0} false", "{0 0 0} 0 false"}
 	first := calls()
 	for _, results := range first {
-		zero := results == "false" || results == "false false" || results == "0 false" || results == "0 0 false" || results == "[] false"
-		if !zero && !strings.HasSuffix(results, "true") {
+		if !slices.Contains(zeros, results) && !strings.HasSuffix(results, "true") {
 			t.Errorf("a failing call returned more than zero values: %.40q", results)
 		}
 	}
