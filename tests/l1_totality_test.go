@@ -42,7 +42,7 @@ func callStrings() []string {
 // and that each of them returns the same both times.
 func checkTotal(t *testing.T, calls func() []string) {
 	t.Helper()
-	zeros := []string{"false", "false false", "0 false", "0 false false", "0 0 false", "[] false", "{0 0} false", "{false 0 0} false", "{0 0 0} false", "{0 0 0} 0 false",
+	zeros := []string{"false", "false false", "0 false", "0 false false", "0 0 false", "[] false", "{0 0} false", "{0 0} 0 false", "{0 0} {0 0} false", "{false 0 0} false", "{0 0 0} false", "{0 0 0} 0 false",
 		"{0 []} false", "{0 []} 0 false", "{0 {false 0 0} 0 {false 0 0} 0 0} false"}
 	first := calls()
 	for _, results := range first {
