@@ -141,24 +141,7 @@ func TestChangedPlotTexts(t *testing.T) {
 		}
 	}
 	for _, s := range []string{"3600: 4711 at 120/9000 by 125", "0: 1 at 0/0 by 1", "86400: 65535 at 9899/9899 by 123456789", "10: 10 at 10/10 by 9", "8640: 6553 at 989/989 by 2468"} {
-		for i := range len(s) + 1 {
-			for c := range 256 {
-				b := string([]byte{byte(c)})
-				check(s[:i] + b + s[i:])
-				if i < len(s) {
-					check(s[:i] + b + s[i+1:])
-				}
-			}
-			check(s[:i])
-			check(s[i:])
-			for k := i + 1; k <= len(s); k++ {
-				check(s[:i] + s[k:])
-				check(s[:k] + s[i:])
-			}
-		}
-		check(s + s)
-		check(s + " " + s)
-		check(strings.ToUpper(s))
+		everyChange(s, check)
 	}
 	if good < 500 {
 		t.Errorf("only %d of the changed texts are those of plots", good)

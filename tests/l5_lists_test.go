@@ -90,25 +90,32 @@ func TestFramesAreRecoveredFromTheirTexts(t *testing.T) {
 	}
 }
 
-func TestChangedFrameTexts(t *testing.T) {
-	for _, s := range []string{"position 00FF 123456", "name 0001 000000", "height FFFF FFFFFF", "speed ABCD 00000F"} {
-		for i := range len(s) + 1 {
-			for c := range 256 {
-				b := string([]byte{byte(c)})
-				checkAnyText(t, s[:i]+b+s[i:])
-				if i < len(s) {
-					checkAnyText(t, s[:i]+b+s[i+1:])
-				}
-			}
-			checkAnyText(t, s[:i])
-			checkAnyText(t, s[i:])
+// everyChange visits texts that are close to s: with a byte put in, replaced or left out, with parts left out or twice, and so on. Some of
+// them are s itself.
+func everyChange(s string, visit func(string)) {
+	for i := range len(s) + 1 {
+		for c := range 256 {
+			b := string([]byte{byte(c)})
+			visit(s[:i] + b + s[i:])
 			if i < len(s) {
-				checkAnyText(t, s[:i]+s[i+1:])
+				visit(s[:i] + b + s[i+1:])
 			}
 		}
-		checkAnyText(t, strings.ToUpper(s))
-		checkAnyText(t, strings.ToLower(s))
-		checkAnyText(t, s+" "+s)
+		visit(s[:i])
+		visit(s[i:])
+		for k := i + 1; k <= len(s); k++ {
+			visit(s[:i] + s[k:])
+			visit(s[:k] + s[i:])
+		}
+	}
+	for _, whole := range []string{s + s, s + " " + s, s + "\n" + s, strings.ToUpper(s), strings.ToLower(s)} {
+		visit(whole)
+	}
+}
+
+func TestChangedFrameTexts(t *testing.T) {
+	for _, s := range []string{"position 00FF 123456", "name 0001 000000", "height FFFF FFFFFF", "speed ABCD 00000F"} {
+		everyChange(s, func(changed string) { checkAnyText(t, changed) })
 	}
 }
 

@@ -100,23 +100,7 @@ func TestChangedHeightTexts(t *testing.T) {
 		checkHeightParsed(t, s, height, ok)
 	}
 	for _, s := range []string{"FL350", "FL100", "FL1267", "9900 ft", "10050 ft", "0 ft", "-1 ft", "-1000 ft", "126701 ft"} {
-		for i := range len(s) + 1 {
-			for c := range 256 {
-				b := string([]byte{byte(c)})
-				check(s[:i] + b + s[i:])
-				if i < len(s) {
-					check(s[:i] + b + s[i+1:])
-				}
-			}
-			check(s[:i])
-			check(s[i:])
-			if i < len(s) {
-				check(s[:i] + s[i+1:])
-			}
-		}
-		check(s + s)
-		check(strings.ToLower(s))
-		check(strings.ToUpper(s))
+		everyChange(s, check)
 	}
 }
 

@@ -91,23 +91,7 @@ func TestChangedVelocityTexts(t *testing.T) {
 		checkVelocityParsed(t, s, v, ok)
 	}
 	for _, s := range []string{"0", "1N", "20S", "3E", "200W", "120N 35W", "1S 1E", "200N 200E", "10S 200W"} {
-		for i := range len(s) + 1 {
-			for c := range 256 {
-				b := string([]byte{byte(c)})
-				check(s[:i] + b + s[i:])
-				if i < len(s) {
-					check(s[:i] + b + s[i+1:])
-				}
-			}
-			check(s[:i])
-			check(s[i:])
-			if i < len(s) {
-				check(s[:i] + s[i+1:])
-			}
-		}
-		check(s + s)
-		check(s + " " + s)
-		check(strings.ToLower(s))
+		everyChange(s, check)
 	}
 }
 
