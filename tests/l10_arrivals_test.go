@@ -70,7 +70,8 @@ func possibleByHand(list []impl.Site, arrivals []int) bool {
 // eachOf calls visit with all lists of a length with numbers in 0..most.
 func eachOf(length, most int, visit func([]int)) {
 	numbers := make([]int, length)
-	for i := 0; i < length; {
+	// There is one list of the length 0.
+	for i := -1; i < length; {
 		visit(slices.Clone(numbers))
 		for i = 0; i < length && numbers[i] == most; i++ {
 			numbers[i] = 0
