@@ -43,7 +43,7 @@ func callStrings() []string {
 func checkTotal(t *testing.T, calls func() []string) {
 	t.Helper()
 	zeros := []string{"false", "false false", "0 false", "0 false false", "0 0 false", "[] false", "{0 0} false", "{0 0} 0 false", "{0 0} {0 0} false", "{false 0 0} false", "{0 0 0} false", "{0 0 0} 0 false",
-		"{0 []} false", "{0 []} 0 false", "{0 0 {0 0} []} false", "{0 {false 0 0} 0 {false 0 0} 0 0} false", "[] 0 false", "{0 0 0 0 0 0} false"}
+		"0 0 0 false", "{0 []} false", "{0 []} 0 false", "{0 0 {0 0} []} false", "{0 {false 0 0} 0 {false 0 0} 0 0} false", "[] 0 false", "{0 0 0 0 0 0} false"}
 	first := calls()
 	for _, results := range first {
 		if !slices.Contains(zeros, results) && !strings.HasSuffix(results, "true") {
